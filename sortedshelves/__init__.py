@@ -1,0 +1,1 @@
+"""Sortedshelves: shelves of texts, decided for all texts."""

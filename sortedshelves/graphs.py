@@ -1,0 +1,185 @@
+"""Graphs: rows and ends as a machine has them, but of any number of states, and what is found in them."""
+
+from sortedshelves.bounds import MAX_ROWS
+from sortedshelves.errors import TooGreat
+
+LETTERS = "abc"
+
+
+def reached(rows):
+    """The states that words come to from state 0, in the order of their first words."""
+    order = [0]
+    known = [False] * len(rows)
+    known[0] = True
+    at = 0
+    while at < len(order):
+        for target in rows[order[at]]:
+            if target is not None and not known[target]:
+                known[target] = True
+                order.append(target)
+        at += 1
+    return order
+
+
+def sources(letters, rows, order):
+    """For each letter and each state those states of order that the letter leads there from."""
+    before = [[[] for _ in rows] for _ in range(letters)]
+    for state in order:
+        for letter, target in enumerate(rows[state]):
+            if target is not None:
+                before[letter][target].append(state)
+    return before
+
+
+def leading(before, goals, many):
+    """For each of so many states whether one of the goals can be come to from it."""
+    leads = [False] * many
+    for state in goals:
+        leads[state] = True
+    found = list(goals)
+    while found:
+        state = found.pop()
+        for ways in before:
+            for source in ways[state]:
+                if not leads[source]:
+                    leads[source] = True
+                    found.append(source)
+    return leads
+
+
+def useful(rows, ends):
+    """For each state whether some word on its way from state 0 to an end goes through it."""
+    order = reached(rows)
+    before = sources(len(rows[0]), rows, order)
+    return leading(before, [state for state in order if ends[state]], len(rows))
+
+
+def smallest_graph(letters, rows, ends):
+    """The smallest machine of the words of the graph; TooGreat if it has too many states."""
+    order = reached(rows)
+    before = sources(letters, rows, order)
+    leads = leading(before, [state for state in order if ends[state]], len(rows))
+    if not leads[0]:
+        return (letters, ((None,) * letters,), (False,))
+    block, members = first_blocks(rows, ends, [state for state in order if leads[state]], leads)
+    refine(before, block, members)
+    return numbered(letters, rows, ends, block)
+
+
+def first_blocks(rows, ends, states, leads):
+    """These states parted by whether they are ends and by the letters that go on from them.
+
+    The block of each state, None for those left out, and the states of each block.
+    """
+    block = [None] * len(rows)
+    numbers = {}
+    members = []
+    for state in states:
+        sign = 1 if ends[state] else 0
+        for target in rows[state]:
+            sign = 2 * sign + (1 if target is not None and leads[target] else 0)
+        if sign not in numbers:
+            numbers[sign] = len(members)
+            members.append([])
+        block[state] = numbers[sign]
+        members[numbers[sign]].append(state)
+    return block, members
+
+
+def refine(before, block, members):
+    """Part the blocks until states of one block lead to the same words; changes block and members.
+
+    The way of Hopcroft: where a block was parted, only the smaller part has to be looked at again.
+    """
+    sizes = [len(held) for held in members]
+    waiting = [True] * len(members)
+    queue = list(range(len(members)))
+    while queue:
+        if len(members) > MAX_ROWS:
+            raise TooGreat()
+        chosen = queue.pop()
+        waiting[chosen] = False
+        # States that were moved to later blocks are still in the older lists.
+        held = [state for state in members[chosen] if block[state] == chosen]
+        members[chosen] = held
+        for ways in before:
+            touched = {}
+            for state in held:
+                for source in ways[state]:
+                    if block[source] in touched:
+                        touched[block[source]].append(source)
+                    else:
+                        touched[block[source]] = [source]
+            for old in touched:
+                if len(touched[old]) < sizes[old]:
+                    move(old, touched[old], block, members, sizes)
+                    queue.append(look_again(old, sizes, waiting))
+
+
+def move(old, moved, block, members, sizes):
+    """Move these states of the old block into a new one."""
+    for state in moved:
+        block[state] = len(members)
+    members.append(moved)
+    sizes.append(len(moved))
+    sizes[old] -= len(moved)
+
+
+def look_again(old, sizes, waiting):
+    """The block that has to be looked at after the last one was parted from the old one."""
+    new = len(waiting)
+    waiting.append(False)
+    chosen = new if waiting[old] or sizes[new] <= sizes[old] else old
+    waiting[chosen] = True
+    return chosen
+
+
+def numbered(letters, rows, ends, block):
+    """The machine of the blocks, numbered in the order of the first words that come to them."""
+    numbers = {block[0]: 0}
+    picked = [0]
+    done = []
+    while len(done) < len(picked):
+        row = []
+        for target in rows[picked[len(done)]]:
+            if target is None or block[target] is None:
+                row.append(None)
+                continue
+            if block[target] not in numbers:
+                numbers[block[target]] = len(picked)
+                picked.append(target)
+            row.append(numbers[block[target]])
+        done.append(tuple(row))
+    return (letters, tuple(done), tuple([ends[state] for state in picked]))
+
+
+def first_word(start, goes, wanted):
+    """The first word that leads from the node start to a node that is wanted, or None.
+
+    goes returns the nodes behind a node, one for each letter, None where there is none.
+    """
+    if wanted(start):
+        return ""
+    came = {start: None}
+    edge = [start]
+    while edge:
+        further = []
+        for node in edge:
+            for letter, target in enumerate(goes(node)):
+                if target is None or target in came:
+                    continue
+                came[target] = (node, letter)
+                if wanted(target):
+                    return spelled(came, target)
+                further.append(target)
+        edge = further
+    return None
+
+
+def spelled(came, node):
+    """The word by which the node was come to."""
+    signs = []
+    while came[node] is not None:
+        node, letter = came[node]
+        signs.append(LETTERS[letter])
+    return "".join(signs[::-1])

@@ -1,0 +1,186 @@
+"""The rules of LANGUAGE.md that can be seen in the text of a file without much work."""
+
+import ast
+import builtins
+import pathlib
+import unittest
+
+import sortedshelves
+
+FOLDER = pathlib.Path(sortedshelves.__file__).parent
+BUILTINS = set(
+    "len range enumerate zip min max sum abs sorted reversed int str bool bytes list tuple dict set frozenset "
+    "isinstance ord repr any all divmod map iter next super property staticmethod classmethod Exception ValueError "
+    "TypeError KeyError IndexError LookupError ZeroDivisionError ArithmeticError OverflowError RuntimeError "
+    "NotImplementedError AttributeError StopIteration NotImplemented".split()
+)
+# "_" is left there by an interactive Python, the other ones are in each module.
+PYTHON = {name for name in dir(builtins) if not name.startswith("_")}
+LIBRARY = {
+    "heapq": {"heappush", "heappop", "heapify", "heapreplace", "heappushpop"},
+    "math": {"gcd", "lcm", "isqrt", "comb", "perm", "factorial"},
+    "itertools": {"product", "combinations", "permutations"},
+}
+METHODS = set(
+    "append clear copy count endswith extend find get index insert isalnum isalpha isdigit islower isspace isupper "
+    "items join keys ljust lower lstrip partition pop remove replace reverse rfind rjust rpartition rsplit rstrip "
+    "setdefault split splitlines startswith strip update upper values zfill bit_length add discard".split()
+)
+BARRED = set(
+    "register mro elements open input law version_info with_traceback add_note attrgetter breakpoint builtins "
+    "compile copyright credits delattr dir eval exec exit gc getattr globals hasattr help id importlib license locals "
+    "methodcaller os quit setattr type vars sys typing enum Enum Flag Generic Protocol ABC namedtuple "
+    "dataclass overload contextmanager".split()
+)
+GATHERERS = {"any", "all", "min", "max", "sum", "sorted"}
+NODES = (
+    ast.Global, ast.AsyncFunctionDef, ast.AsyncFor, ast.AsyncWith, ast.Await, ast.Div, ast.MatMult, ast.TryStar,
+    ast.AnnAssign, ast.Delete,
+)
+
+
+def files():
+    return sorted(FOLDER.glob("**/*.py"))
+
+
+def trees():
+    return [(path.name, ast.parse(path.read_text())) for path in files()]
+
+
+def bound_names(tree):
+    """All names that are given to variables, parameters, functions and classes."""
+    for node in ast.walk(tree):
+        if isinstance(node, ast.Name) and isinstance(node.ctx, ast.Store):
+            yield node.id
+        elif isinstance(node, ast.arg):
+            yield node.arg
+        elif isinstance(node, (ast.FunctionDef, ast.ClassDef)):
+            yield node.name
+
+
+def local_names(tree):
+    """The names of parameters, local variables and nested functions."""
+    for node in ast.walk(tree):
+        if isinstance(node, ast.FunctionDef):
+            for below in node.body:
+                yield from bound_names(below)
+            yield from (argument.arg for argument in node.args.args)
+
+
+class Language(unittest.TestCase):
+    def test_folder(self):
+        self.assertLessEqual(len(files()), 100)
+        for path in FOLDER.glob("**/*"):
+            if "__pycache__" not in path.parts:
+                self.assertEqual((path.suffix, path.name), (".py", path.name.lower()))
+
+    def test_size_and_characters(self):
+        for path in files():
+            text = path.read_text(encoding="utf-8")
+            self.assertTrue(all(sign == "\n" or " " <= sign <= "~" for sign in text), path.name)
+            lines = text.splitlines()
+            self.assertLessEqual(len(lines), 399, path.name)
+            for at, line in enumerate(lines, 1):
+                self.assertLessEqual(len(line), 120, (path.name, at))
+
+    def test_functions_are_small(self):
+        for name, tree in trees():
+            for node in ast.walk(tree):
+                if isinstance(node, ast.FunctionDef):
+                    self.assertLessEqual(node.end_lineno - node.lineno + 1, 40, (name, node.name))
+
+    def test_imports(self):
+        for name, tree in trees():
+            for node in ast.walk(tree):
+                self.assertNotIsInstance(node, ast.Import, name)
+                if not isinstance(node, ast.ImportFrom):
+                    continue
+                self.assertIn(node, tree.body, name)
+                names = {alias.name for alias in node.names}
+                if node.module in LIBRARY:
+                    self.assertLessEqual(names, LIBRARY[node.module])
+                    continue
+                package, module = node.module.split(".")
+                self.assertEqual(package, "sortedshelves", name)
+                there = ast.parse((FOLDER / f"{module}.py").read_text())
+                kept = set(bound_names(ast.Module([part for part in there.body if not isinstance(
+                    part, (ast.FunctionDef, ast.ClassDef))], [])))
+                kept |= {part.name for part in there.body if isinstance(part, (ast.FunctionDef, ast.ClassDef))}
+                self.assertLessEqual(names, kept, name)
+
+    def test_module_level(self):
+        for name, tree in trees():
+            for node in tree.body:
+                docstring = isinstance(node, ast.Expr) and isinstance(node.value, ast.Constant)
+                self.assertTrue(
+                    docstring or isinstance(node, (ast.ImportFrom, ast.FunctionDef, ast.ClassDef, ast.Assign)), name
+                )
+
+    def test_builtins(self):
+        for name, tree in trees():
+            for node in ast.walk(tree):
+                if isinstance(node, ast.Name) and node.id in PYTHON:
+                    self.assertIn(node.id, BUILTINS, (name, node.lineno))
+                if isinstance(node, ast.Name) and node.id == "_":
+                    self.assertIsInstance(node.ctx, ast.Store, (name, node.lineno))
+
+    def test_names(self):
+        for name, tree in trees():
+            taken = {alias.name for node in tree.body if isinstance(node, ast.ImportFrom) for alias in node.names}
+            taken |= {node.name for node in tree.body if isinstance(node, ast.ClassDef)}
+            for bound in bound_names(tree):
+                self.assertNotIn(bound, BARRED, name)
+                self.assertNotIn(bound, PYTHON, name)
+                self.assertTrue(not bound.startswith("__") or bound.endswith("__"), (name, bound))
+            self.assertEqual(taken & set(local_names(tree)), set(), name)
+
+    def test_statements_and_expressions(self):
+        for name, tree in trees():
+            for node in ast.walk(tree):
+                where = (name, getattr(node, "lineno", None))
+                self.assertNotIsInstance(node, NODES, where)
+                if isinstance(node, ast.Constant):
+                    self.assertNotIsInstance(node.value, (float, complex), where)
+                    self.assertFalse(isinstance(node.value, str) and "%" in node.value, where)
+                if isinstance(node, ast.BinOp) and isinstance(node.op, ast.Pow):
+                    self.assertIsInstance(node.right, ast.Constant, where)
+                if isinstance(node, ast.Compare) and any(isinstance(op, (ast.Is, ast.IsNot)) for op in node.ops):
+                    self.assertIsInstance(node.comparators[0], ast.Constant, where)
+                if isinstance(node, ast.FunctionDef):
+                    self.assertEqual(node.decorator_list, [], where)
+
+    def test_calls(self):
+        for name, tree in trees():
+            for node in ast.walk(tree):
+                if not isinstance(node, ast.Call):
+                    continue
+                where = (name, node.lineno)
+                if isinstance(node.func, ast.Attribute):
+                    self.assertIn(node.func.attr, METHODS, where)
+                elif isinstance(node.func, ast.Name) and node.func.id in GATHERERS:
+                    # A class that compares is to come, and beside one these take lists alone.
+                    self.assertFalse(any(isinstance(part, ast.GeneratorExp) for part in node.args), where)
+
+    def test_what_is_iterated_is_not_changed(self):
+        for name, tree in trees():
+            for loop in ast.walk(tree):
+                if isinstance(loop, ast.For) and isinstance(loop.iter, ast.Name):
+                    self.assertNotIn(loop.iter.id, set(changed_names(loop)), (name, loop.lineno))
+
+
+def changed_names(loop):
+    """The names of what is changed in place, or assigned again, in the loop."""
+    for node in ast.walk(loop):
+        if isinstance(node, ast.Subscript) and isinstance(node.ctx, ast.Store) and isinstance(node.value, ast.Name):
+            yield node.value.id
+        elif isinstance(node, ast.Call) and isinstance(node.func, ast.Attribute):
+            if isinstance(node.func.value, ast.Name) and node.func.attr in (
+                "append", "clear", "extend", "insert", "pop", "remove", "reverse", "setdefault", "update",
+            ):
+                yield node.func.value.id
+        elif isinstance(node, ast.AugAssign) and isinstance(node.target, ast.Name):
+            yield node.target.id
+
+
+if __name__ == "__main__":
+    unittest.main()
