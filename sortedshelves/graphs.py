@@ -13,7 +13,8 @@ def reached(rows):
     known[0] = True
     at = 0
     while at < len(order):
-        for target in rows[order[at]]:
+        state = order[at]
+        for target in rows[state]:
             if target is not None and not known[target]:
                 known[target] = True
                 order.append(target)
@@ -141,7 +142,8 @@ def numbered(letters, rows, ends, block):
     done = []
     while len(done) < len(picked):
         row = []
-        for target in rows[picked[len(done)]]:
+        state = picked[len(done)]
+        for target in rows[state]:
             if target is None or block[target] is None:
                 row.append(None)
                 continue
@@ -150,7 +152,7 @@ def numbered(letters, rows, ends, block):
                 picked.append(target)
             row.append(numbers[block[target]])
         done.append(tuple(row))
-    return (letters, tuple(done), tuple([ends[state] for state in picked]))
+    return (letters, tuple(done), tuple([ends[first] for first in picked]))
 
 
 def first_word(start, goes, wanted):

@@ -176,6 +176,17 @@ def chain(states, letters=1, ends=None):
     return (letters, rows, tuple(s in ends if ends else s == states - 1 for s in range(states)))
 
 
+def blown_up(machine, states, seed):
+    """A machine of so many states with the same words; each state has several twins, led to by chance."""
+    letters, rows, ends = machine
+    chance = random.Random(seed)
+    twins = [[s for s in range(states) if s % len(rows) == state] for state in range(len(rows))]
+    blown = tuple(
+        tuple(None if t is None else chance.choice(twins[t]) for t in rows[s % len(rows)]) for s in range(states)
+    )
+    return (letters, blown, tuple(ends[s % len(rows)] for s in range(states)))
+
+
 def shuffled(machine, seed):
     """The machine with its states, but for state 0, in another order."""
     letters, rows, ends = machine

@@ -164,8 +164,9 @@ class Language(unittest.TestCase):
     def test_what_is_iterated_is_not_changed(self):
         for name, tree in trees():
             for loop in ast.walk(tree):
-                if isinstance(loop, ast.For) and isinstance(loop.iter, ast.Name):
-                    self.assertNotIn(loop.iter.id, set(changed_names(loop)), (name, loop.lineno))
+                if isinstance(loop, ast.For):
+                    read = {part.id for part in ast.walk(loop.iter) if isinstance(part, ast.Name)}
+                    self.assertEqual(read & set(changed_names(loop)), set(), (name, loop.lineno))
 
 
 def changed_names(loop):

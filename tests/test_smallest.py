@@ -1,12 +1,13 @@
 """smallest, begins and backwards of point 5."""
 
+import random
 import unittest
 
 from sortedshelves.errors import ShelfError, TooGreat
 from sortedshelves.machines import backwards, begins, smallest
 from tests.reference import (
-    chain, doubled, holds, naive_smallest, random_machines, ring, shuffled, smallest_of_words, timed, wheel,
-    words_up_to,
+    blown_up, chain, doubled, holds, naive_smallest, random_machine, random_machines, ring, shuffled,
+    smallest_of_words, timed, wheel, words_up_to,
 )
 
 NOTHING = {n: (n, ((None,) * n,), (False,)) for n in (1, 2, 3)}
@@ -46,6 +47,22 @@ class Smallest(unittest.TestCase):
             self.assertEqual(smallest(doubled(machine)), found)
             self.assertEqual(smallest(shuffled(machine, seed)), found)
             self.assertEqual(smallest(shuffled(doubled(doubled(machine)), seed)), found)
+
+    def test_blocks_that_are_parted_many_times(self):
+        chance = random.Random(15)
+        for seed in range(400):
+            letters, states = chance.randint(1, 3), chance.randint(10, 40)
+            base = random_machine(chance, states, letters, chance.choice((0, 0, 0.02, 0.2)), 2 / states)
+            machine = blown_up(base, states + chance.randint(0, 60), seed)
+            found = smallest(machine)
+            self.assertEqual(found, naive_smallest(base))
+            self.assertEqual(smallest(shuffled(machine, seed)), found)
+
+    def test_blocks_that_wait_while_they_are_parted(self):
+        chance = random.Random(16)
+        for _ in range(600):
+            machine = random_machine(chance, chance.randint(16, 45), 2, 0, 0.5)
+            self.assertEqual(smallest(machine), naive_smallest(machine))
 
     def test_states_that_no_word_comes_to_or_that_lead_nowhere(self):
         machine = (2, ((1, 3), (None, 0), (0, 1), (3, 3)), (True, False, True, False))
