@@ -48,6 +48,86 @@ def leading(before, goals, many):
     return leads
 
 
+def leaving_order(rows):
+    """The states in the order in which a search into the depth leaves them for good."""
+    order = []
+    known = [False] * len(rows)
+    for root in range(len(rows)):
+        path = [] if known[root] else [(root, 0)]
+        known[root] = True
+        while path:
+            state, letter = path.pop()
+            if letter == len(rows[state]):
+                order.append(state)
+                continue
+            path.append((state, letter + 1))
+            target = rows[state][letter]
+            if target is not None and not known[target]:
+                known[target] = True
+                path.append((target, 0))
+    return order
+
+
+def knots(rows):
+    """The states parted into lists of those that lead to one another; each behind all others it leads to.
+
+    The way of Kosaraju: from the state that was left last, against the arrows, only its own
+    knot is come to; and so on without the states that are taken.
+    """
+    before = sources(len(rows[0]), rows, range(len(rows)))
+    taken = [False] * len(rows)
+    found = []
+    for root in leaving_order(rows)[::-1]:
+        if taken[root]:
+            continue
+        taken[root] = True
+        members = []
+        waiting = [root]
+        while waiting:
+            state = waiting.pop()
+            members.append(state)
+            for ways in before:
+                for source in ways[state]:
+                    if not taken[source]:
+                        taken[source] = True
+                        waiting.append(source)
+        found.append(members)
+    return found[::-1]
+
+
+def raised(edges, heights, many):
+    """Raise heights until each edge (tail, head, gain, letter) leads from one to one at least gain above it.
+
+    heights is a dict for at most so many states; it is changed, and gets the states that edges lead to.
+    Returns None; or, where this has no end, the edges of a ring that gains, each behind the one that
+    its tail is the head of.
+    """
+    came = {}
+    last = None
+    for _ in range(many):
+        last = None
+        for edge in edges:
+            tail, head, gain, _ = edge
+            if tail in heights and (head not in heights or heights[head] < heights[tail] + gain):
+                heights[head] = heights[tail] + gain
+                came[head] = edge
+                last = head
+        if last is None:
+            return None
+    # A way without a ring would have been settled by now, so the last one raised is behind a ring.
+    return ring_behind(came, last)
+
+
+def ring_behind(came, state):
+    """The edges of the ring that is come to from this state against the edges by which states were raised."""
+    for _ in range(len(came)):
+        state = came[state][0]
+    ring = [came[state]]
+    while ring[-1][0] != state:
+        ring.append(came[ring[-1][0]])
+    return ring
+
+
 def useful(rows, ends):
     """For each state whether some word on its way from state 0 to an end goes through it."""
     order = reached(rows)

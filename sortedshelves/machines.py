@@ -3,13 +3,9 @@
 from math import gcd
 
 from sortedshelves.bounds import MAX_LETTERS, MAX_ROWS
+from sortedshelves.checks import is_number
 from sortedshelves.errors import TooGreat
 from sortedshelves.graphs import LETTERS, first_word, reached, smallest_graph, sources, useful
-
-
-def is_number(value, least, most):
-    """Whether the value is an integer, no bool, from least to most."""
-    return isinstance(value, int) and not isinstance(value, bool) and least <= value <= most
 
 
 def machine_error(value):

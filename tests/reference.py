@@ -217,3 +217,234 @@ def timed(call, *values):
     if taken > SECONDS:
         raise AssertionError(f"{call.__name__} took {taken} seconds")
     return found
+
+
+def value_of(form, word):
+    """The worth of the word, letter by letter."""
+    number = 0
+    for sign in word:
+        number += form["abc".index(sign)]
+    return number
+
+
+def reach(machine):
+    """For each state the states that words lead to from it."""
+    found = [{state} for state in range(len(machine[1]))]
+    while True:
+        before = [set(held) for held in found]
+        for state, row in enumerate(machine[1]):
+            for target in row:
+                if target is not None:
+                    found[state] |= found[target]
+        if found == before:
+            return found
+
+
+def simple_rings(machine):
+    """All rings that go through no state twice, as (first state, word); only for few states."""
+    found = []
+
+    def walk(path, word):
+        for sign, target in zip("abc", machine[1][path[-1]]):
+            if target == path[0]:
+                found.append((path[0], word + sign))
+            elif target is not None and target not in path:
+                walk(path + [target], word + sign)
+
+    for state in range(len(machine[1])):
+        walk([state], "")
+    return found
+
+
+def naive_greatest(machine, form):
+    """What greatest tells, but ("ring",) alone for a ring; only for few states."""
+    reached = reach(machine)
+    for state, word in simple_rings(machine):
+        if value_of(form, word) > 0 and state in reached[0] and any(machine[2][end] for end in reached[state]):
+            return ("ring",)
+    # A word that goes round a ring can be made shorter, and is not worth less then.
+    if machine[0] ** len(machine[1]) < 1000:
+        words = words_of(machine, len(machine[1]) - 1)
+        if not words:
+            return ("none",)
+        number = max(value_of(form, word) for word in words)
+        return ("most", number, next(word for word in words if value_of(form, word) == number))
+    numbers, level = [], {0: 0}
+    for _ in machine[1]:
+        numbers += [number for state, number in level.items() if machine[2][state]]
+        further = {}
+        for state, number in level.items():
+            for target, part in zip(machine[1][state], form):
+                if target is not None:
+                    further[target] = max(further.get(target, number + part), number + part)
+        level = further
+    return ("most", max(numbers), naive_above(machine, form, max(numbers) - 1)) if numbers else ("none",)
+
+
+def naive_first(machine, start, step, wanted):
+    """The first word of the machine that is wanted, or None.
+
+    What is kept of a word is start for the empty one, step(kept, letter) with a letter more (None: no word
+    is wanted that begins so). wanted(kept) tells whether a word of the machine is.
+    """
+    _, rows, ends = machine
+    seen, edge = {(0, start)}, [("", 0, start)]
+    while edge:
+        for word, state, kept in edge:
+            if ends[state] and wanted(kept):
+                return word
+        further = []
+        for word, state, kept in edge:
+            for letter, target in enumerate(rows[state]):
+                after = None if target is None else step(kept, letter)
+                if after is not None and (target, after) not in seen:
+                    seen.add((target, after))
+                    further.append((word + "abc"[letter], target, after))
+        edge = further
+    return None
+
+
+def naive_above(machine, form, bound):
+    """The first word of the machine that is worth more than the bound, or None."""
+    # A beginning worth less than this could leave out a ring; one worth more would be enough already.
+    widest = abs(bound) + max(map(abs, form)) * (len(machine[1]) + 1)
+
+    def step(number, letter):
+        return number + form[letter] if abs(number + form[letter]) <= widest else None
+
+    return naive_first(machine, 0, step, lambda number: number > bound)
+
+
+def naive_breach(machine, one, other):
+    """The first word that keeps one and not other."""
+
+    def step(counts, letter):
+        first = counts[0] + one[0][letter]
+        return (first, min(counts[1] + other[0][letter], other[1] + 1)) if first <= one[1] else None
+
+    return naive_first(machine, (0, 0), step, lambda counts: counts[1] > other[1])
+
+
+def keeping(machine, limit):
+    """The machine, of any number of states, of the words of the machine that keep the limit."""
+    letters, rows, ends = machine
+    unit, most = limit
+    numbers, nodes, done = {(0, 0): 0}, [(0, 0)], []
+    while len(done) < len(nodes):
+        state, number = nodes[len(done)]
+        row = []
+        for target, part in zip(rows[state], unit):
+            node = (target, number + part)
+            if target is None or number + part > most:
+                row.append(None)
+                continue
+            if node not in numbers:
+                numbers[node] = len(nodes)
+                nodes.append(node)
+            row.append(numbers[node])
+        done.append(tuple(row))
+    return (letters, tuple(done), tuple(ends[state] for state, _ in nodes))
+
+
+def knotted_machine(chance, letters, groups):
+    """A machine of groups of states; few letters lead from a group to a later one, and none leads back."""
+    group_of = [group for group in range(groups) for _ in range(chance.randint(1, 3))]
+    states = range(len(group_of))
+    rows = []
+    for state in states:
+        inside = [other for other in states if group_of[other] == group_of[state]]
+        later = [other for other in states if group_of[other] > group_of[state]]
+        row = []
+        for _ in range(letters):
+            held = chance.choice((inside, inside, later, [None]))
+            row.append(chance.choice(held or [None]))
+        rows.append(tuple(row))
+    return (letters, tuple(rows), tuple(chance.random() < (0.2 if later else 0.5) for _ in states))
+
+
+def random_form(chance, letters):
+    most = chance.choice((1, 2, 5, 99))
+    return tuple(chance.randint(-most, chance.choice((0, 1, most))) for _ in range(letters))
+
+
+def random_unit(chance, letters):
+    return tuple(chance.choice((0, 0, 1, 2, chance.randint(0, 9))) for _ in range(letters))
+
+
+def changed(chance, value):
+    """The value with some part replaced, left out, put in, doubled, exchanged, or of another kind."""
+    plain = (
+        None, True, False, 0, 1, -1, 2, 3, 10 ** 59, -10 ** 59, "", "a", "b", "abc", "d", "cut", (), (0,), [], {},
+        {0: 1},
+    )
+    if not isinstance(value, tuple) or not value or chance.random() < 0.1:
+        if isinstance(value, tuple) and chance.random() < 0.5:
+            return chance.choice((list(value), dict(enumerate(value)), value + value, (value,)))
+        return chance.choice(plain)
+    at = chance.randrange(len(value))
+    way = chance.randrange(9)
+    if way == 0:
+        return value[:at] + value[at + 1:]
+    if way == 1:
+        return value[:at] + (chance.choice(plain),) + value[at:]
+    if way == 2:
+        return value[:at] + (value[at],) + value[at:]
+    if way == 3:
+        other = chance.randrange(len(value))
+        parts = list(value)
+        parts[at], parts[other] = parts[other], parts[at]
+        return tuple(parts)
+    return value[:at] + (changed(chance, value[at]),) + value[at + 1:]
+
+
+def random_word(chance, letters, length):
+    return "".join(chance.choice("abc"[:letters]) for _ in range(length))
+
+
+def random_step(chance, letters):
+    name = chance.choice(("cut", "stop", "pass", "swap"))
+    if name == "cut":
+        return ("cut", random_unit(chance, letters), chance.choice((0, 1, 2, 5, 30, chance.randint(0, 30))))
+    if name == "stop":
+        return ("stop", chance.choice("abc"[:letters]))
+    if name == "pass":
+        turns = chance.randint(1, 4)
+        rows = tuple(tuple(chance.randrange(turns) for _ in range(letters)) for _ in range(turns))
+        return ("pass", rows, tuple(tuple(random_word(chance, letters, letters)) for _ in range(turns)))
+    if letters == 1:
+        return ("stop", "a")
+    pieces = ["".join(signs) for n in (1, 2) for signs in product("abc"[:letters], repeat=n)]
+    chance.shuffle(pieces)
+    short, long = [piece for piece in pieces if len(piece) == 1], [piece for piece in pieces if len(piece) == 2]
+    pairs = []
+    for _ in range(chance.randint(1, 4)):
+        held = chance.choice((short, long))
+        if len(held) >= 2:
+            pairs.append((held.pop(), held.pop()))
+    return ("swap", tuple(pairs or [("a", "b")]))
+
+
+def random_line(chance, letters):
+    return tuple(random_step(chance, letters) for _ in range(chance.randint(0, 3)))
+
+
+def columns_of(letters):
+    """The columns as the document writes them."""
+    signs = "abc"[:letters] + "."
+    return [one + other for one in signs for other in signs if one + other != ".."]
+
+
+def random_comp(chance, letters, rows):
+    wide = len(columns_of(letters))
+    return (letters, tuple(tuple(chance.randrange(rows) for _ in range(wide)) for _ in range(rows)),
+            tuple(chance.choice((-1, 0, 1)) for _ in range(rows)))
+
+
+def naive_tells(comp, one, other):
+    """The verdict of two words, by the texts of the columns."""
+    letters, rows, verdicts = comp
+    columns, row = columns_of(letters), 0
+    while one or other:
+        row = rows[row][columns.index((one[:1] or ".") + (other[:1] or "."))]
+        one, other = one[1:], other[1:]
+    return verdicts[row]

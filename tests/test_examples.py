@@ -19,6 +19,34 @@ POINT_5 = """
     [(2, ((1, 0), (1, None)), (True, True)), (2, ((1, 2), (1, 3), (4, 2), (None, 3), (4, None)), (True, True, True, True, True))]
 """
 
+POINTS_6_AND_7 = """
+    >>> from sortedshelves.forms import above, greatest, heights, heights_hold, worth
+    >>> kind = (2, ((0, 1), (0, None)), (True, True))
+    >>> [worth((2, -3), "aab"), greatest(kind, (-1, 2))[0], greatest(kind, (-2, 2)), greatest(kind, (1, -9))[0], above(kind, (-1, 2), 2), above(kind, (1, 0), 2), heights_hold(kind, (-2, 2), 2, (0, 2)), heights_hold(kind, (-2, 2), 1, heights(kind, (-2, 2), 2)), heights(kind, (-1, 2), 1)]
+    [1, 'ring', ('most', 2, 'b'), 'ring', 'bab', 'aaa', True, False, None]
+"""
+
+LIMITS_OF_POINT_6 = """
+    >>> from sortedshelves.limits import breach, most_kept
+    >>> kind = (2, ((0, 1), (0, None)), (True, True))
+    >>> [breach(kind, ((1, 2), 4), ((1, 0), 2)), breach(kind, ((1, 1), 4), ((0, 1), 2)), most_kept(kind, ((0, 1), 1), (-1, 5)), most_kept(kind, ((0, 1), 1), (1, 0))[0], most_kept((1, ((0,),), (False,)), ((1,), 9), (1,))]
+    ['aaa', None, ('most', 5, 'b'), 'ring', ('none',)]
+"""
+
+POINT_8 = """
+    >>> from sortedshelves.steps import image, line_error
+    >>> fold, swap = ("pass", ((0, 0),), (("b", "a"),)), ("swap", (("ab", "ba"),))
+    >>> [line_error(2, (fold, swap)), line_error(1, (("cut", (1,), 31),)), line_error(2, (("stop", "a"), ("stop", "c"))), image((fold,), "aab"), image((swap,), "abab"), image((swap, swap), "abab"), image((("cut", (0, 1), 1),), "aabab"), image((("stop", "b"), fold), "aab"), image((("pass", ((1, 0), (1, 1)), (("b", "b"), ("a", "b"))),), "baab")]
+    [None, (0, 'step'), (1, 'step'), 'bba', 'baab', 'abab', 'aaba', 'bb', 'bbab']
+"""
+
+POINT_11 = """
+    >>> from sortedshelves.comps import by_length, by_ranks, comp_error, tells, then, turned
+    >>> plain, short = by_ranks(2, (0, 1)), then(by_length(2), turned(by_ranks(2, (0, 1))))
+    >>> [comp_error(plain), comp_error((1, ((0, 0, 1),), (0,))), tells(plain, "ab", "b"), tells(short, "ab", "b"), tells(short, "ab", "ba"), by_length(1), len(short[1])]
+    [None, 'rows', -1, 1, 1, (1, ((0, 2, 1), (1, 1, 1), (2, 2, 2)), (0, -1, 1)), 7]
+"""
+
 
 class Examples(unittest.TestCase):
     def follow(self, text, many):
@@ -34,6 +62,18 @@ class Examples(unittest.TestCase):
 
     def test_point_5(self):
         self.follow(POINT_5, 4)
+
+    def test_points_6_and_7(self):
+        self.follow(POINTS_6_AND_7, 3)
+
+    def test_limits_of_point_6(self):
+        self.follow(LIMITS_OF_POINT_6, 3)
+
+    def test_point_8(self):
+        self.follow(POINT_8, 3)
+
+    def test_point_11(self):
+        self.follow(POINT_11, 3)
 
 
 if __name__ == "__main__":

@@ -58,6 +58,14 @@ def bound_names(tree):
             yield node.name
 
 
+def own_methods():
+    """The names of the methods of the package's classes."""
+    return {
+        part.name for _, tree in trees() for node in tree.body if isinstance(node, ast.ClassDef)
+        for part in node.body if isinstance(part, ast.FunctionDef) and not part.name.startswith("__")
+    }
+
+
 def local_names(tree):
     """The names of parameters, local variables and nested functions."""
     for node in ast.walk(tree):
@@ -150,13 +158,17 @@ class Language(unittest.TestCase):
                     self.assertEqual(node.decorator_list, [], where)
 
     def test_calls(self):
+        own = own_methods()
         for name, tree in trees():
+            called = {id(node.func) for node in ast.walk(tree) if isinstance(node, ast.Call)}
             for node in ast.walk(tree):
+                if isinstance(node, ast.Attribute) and node.attr in own:
+                    self.assertIn(id(node), called, (name, node.lineno))
                 if not isinstance(node, ast.Call):
                     continue
                 where = (name, node.lineno)
                 if isinstance(node.func, ast.Attribute):
-                    self.assertIn(node.func.attr, METHODS, where)
+                    self.assertIn(node.func.attr, METHODS | own, where)
                 elif isinstance(node.func, ast.Name) and node.func.id in GATHERERS:
                     # A class that compares is to come, and beside one these take lists alone.
                     self.assertFalse(any(isinstance(part, ast.GeneratorExp) for part in node.args), where)
