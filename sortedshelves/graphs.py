@@ -74,7 +74,7 @@ def knots(rows):
     The way of Kosaraju: from the state that was left last, against the arrows, only its own
     knot is come to; and so on without the states that are taken.
     """
-    before = sources(len(rows[0]), rows, range(len(rows)))
+    before = sources(len(rows[0]), rows, list(range(len(rows))))
     taken = [False] * len(rows)
     found = []
     for root in leaving_order(rows)[::-1]:

@@ -33,6 +33,10 @@ BARRED = set(
     "dataclass overload contextmanager".split()
 )
 GATHERERS = {"any", "all", "min", "max", "sum", "sorted"}
+PASSING = {"range", "zip", "enumerate", "reversed", "map"}
+VIEWS = {"items", "keys", "values"}
+# What takes such a call as its first argument and iterates it on the spot.
+TAKERS = {"list", "tuple", "dict", "sorted", "sum", "any", "all", "enumerate", "zip"}
 NODES = (
     ast.Global, ast.AsyncFunctionDef, ast.AsyncFor, ast.AsyncWith, ast.Await, ast.Div, ast.MatMult, ast.TryStar,
     ast.AnnAssign, ast.Delete,
@@ -179,6 +183,45 @@ class Language(unittest.TestCase):
                 if isinstance(loop, ast.For):
                     read = {part.id for part in ast.walk(loop.iter) if isinstance(part, ast.Name)}
                     self.assertEqual(read & set(changed_names(loop)), set(), (name, loop.lineno))
+
+
+    def test_ranges_zips_and_views_are_iterated_on_the_spot(self):
+        for name, tree in trees():
+            for line in kept_or_passed(tree):
+                self.fail((name, line))
+
+
+def passing(node):
+    """Whether the node is a call of range, zip and the like, or of a view of a dict."""
+    if not isinstance(node, ast.Call):
+        return False
+    if isinstance(node.func, ast.Name):
+        return node.func.id in PASSING
+    return isinstance(node.func, ast.Attribute) and node.func.attr in VIEWS and not node.args
+
+
+def kept_or_passed(tree):
+    """The lines with a range, zip or view that is stored, passed on or returned (L23); none is kept here at all."""
+    spots = set()
+    for node in ast.walk(tree):
+        if isinstance(node, (ast.For, ast.comprehension)):
+            spots.add(id(node.iter))
+        elif isinstance(node, ast.Call) and isinstance(node.func, ast.Name) and node.args:
+            if node.func.id in TAKERS or (node.func.id in ("min", "max") and len(node.args) == 1):
+                spots.add(id(node.args[0]))
+        elif isinstance(node, ast.Call) and isinstance(node.func, ast.Attribute) and node.func.attr == "join":
+            spots.update(id(part) for part in node.args)
+    return [node.lineno for node in ast.walk(tree) if passing(node) and id(node) not in spots]
+
+
+class KeptOrPassed(unittest.TestCase):
+    def test_finds_them(self):
+        for text in ("f(range(3))", "x = range(3)", "def f(d):\n    return d.items()", "[zip(a, b)]", "f(1, d.keys())",
+                     "max(range(3), 1)", "f(k for k in xs)(range(2))", "x = (1, enumerate(xs))", "s.add(reversed(xs))"):
+            self.assertEqual(len(kept_or_passed(ast.parse(text))), 1, text)
+        for text in ("for k in range(3): pass", "f(list(range(3)))", "[k for k, v in d.items()]", "max(d.values())",
+                     "sum(d.values(), start=1)", "f(xs.index(1), tuple(zip(a, b)))", "','.join(map(str, xs))"):
+            self.assertEqual(kept_or_passed(ast.parse(text)), [], text)
 
 
 def changed_names(loop):
