@@ -135,20 +135,36 @@ def useful(rows, ends):
     return leading(before, [state for state in order if ends[state]], len(rows))
 
 
+def trimmed(rows, ends):
+    """The rows with None in the place of the states that lead to no end."""
+    leads = useful(rows, ends)
+    return [[target if target is not None and leads[target] else None for target in row] for row in rows]
+
+
 def smallest_graph(letters, rows, ends):
     """The smallest machine of the words of the graph; TooGreat if it has too many states."""
+    found, marks = smallest_marked(rows, [1 if end else 0 for end in ends], MAX_ROWS)
+    return (letters, found, tuple([mark == 1 for mark in marks]))
+
+
+def smallest_marked(rows, marks, most):
+    """The rows and marks of the smallest graph that leads each word to the same mark.
+
+    marks has an integer for each state, 0 where no word ends; what leads to no other mark is left
+    out. TooGreat if there are more states than most.
+    """
     order = reached(rows)
-    before = sources(letters, rows, order)
-    leads = leading(before, [state for state in order if ends[state]], len(rows))
+    before = sources(len(rows[0]), rows, order)
+    leads = leading(before, [state for state in order if marks[state]], len(rows))
     if not leads[0]:
-        return (letters, ((None,) * letters,), (False,))
-    block, members = first_blocks(rows, ends, [state for state in order if leads[state]], leads)
-    refine(before, block, members)
-    return numbered(letters, rows, ends, block)
+        return ((None,) * len(rows[0]),), (0,)
+    block, members = first_blocks(rows, marks, [state for state in order if leads[state]], leads)
+    refine(before, block, members, most)
+    return numbered(rows, marks, block)
 
 
-def first_blocks(rows, ends, states, leads):
-    """These states parted by whether they are ends and by the letters that go on from them.
+def first_blocks(rows, marks, states, leads):
+    """These states parted by their marks and by the letters that go on from them.
 
     The block of each state, None for those left out, and the states of each block.
     """
@@ -156,7 +172,7 @@ def first_blocks(rows, ends, states, leads):
     numbers = {}
     members = []
     for state in states:
-        sign = 1 if ends[state] else 0
+        sign = marks[state]
         for target in rows[state]:
             sign = 2 * sign + (1 if target is not None and leads[target] else 0)
         if sign not in numbers:
@@ -167,16 +183,17 @@ def first_blocks(rows, ends, states, leads):
     return block, members
 
 
-def refine(before, block, members):
-    """Part the blocks until states of one block lead to the same words; changes block and members.
+def refine(before, block, members, most):
+    """Part the blocks until states of one block lead words to the same marks; changes block and members.
 
     The way of Hopcroft: where a block was parted, only the smaller part has to be looked at again.
+    TooGreat if there are more blocks than most.
     """
     sizes = [len(held) for held in members]
     waiting = [True] * len(members)
     queue = list(range(len(members)))
     while queue:
-        if len(members) > MAX_ROWS:
+        if len(members) > most:
             raise TooGreat()
         chosen = queue.pop()
         waiting[chosen] = False
@@ -215,8 +232,8 @@ def look_again(old, sizes, waiting):
     return chosen
 
 
-def numbered(letters, rows, ends, block):
-    """The machine of the blocks, numbered in the order of the first words that come to them."""
+def numbered(rows, marks, block):
+    """The rows and marks of the blocks, numbered in the order of the first words that come to them."""
     numbers = {block[0]: 0}
     picked = [0]
     done = []
@@ -232,7 +249,7 @@ def numbered(letters, rows, ends, block):
                 picked.append(target)
             row.append(numbers[block[target]])
         done.append(tuple(row))
-    return (letters, tuple(done), tuple([ends[first] for first in picked]))
+    return tuple(done), tuple([marks[first] for first in picked])
 
 
 def first_word(start, goes, wanted):
@@ -265,3 +282,21 @@ def spelled(came, node):
         node, letter = came[node]
         signs.append(LETTERS[letter])
     return "".join(signs[::-1])
+
+
+def bits(states):
+    """The set of these states as an integer."""
+    held = 0
+    for state in states:
+        held |= 1 << state
+    return held
+
+
+def joined_bits(ways, held):
+    """All that ways has for the states in the set, together."""
+    found = 0
+    while held:
+        state = held.bit_length() - 1
+        held -= 1 << state
+        found |= ways[state]
+    return found

@@ -5,7 +5,7 @@ from math import gcd
 from sortedshelves.bounds import MAX_LETTERS, MAX_ROWS
 from sortedshelves.checks import is_number
 from sortedshelves.errors import TooGreat
-from sortedshelves.graphs import LETTERS, first_word, reached, smallest_graph, sources, useful
+from sortedshelves.graphs import LETTERS, bits, first_word, joined_bits, reached, smallest_graph, sources, useful
 
 
 def machine_error(value):
@@ -241,24 +241,6 @@ def backwards(machine):
             raise TooGreat()
         done.append(tuple(row))
     return (letters, tuple(done), tuple([held & 1 == 1 for held in sets]))
-
-
-def bits(states):
-    """The set of these states as an integer."""
-    held = 0
-    for state in states:
-        held |= 1 << state
-    return held
-
-
-def joined_bits(ways, held):
-    """All that ways has for the states in the set, together."""
-    found = 0
-    while held:
-        state = held.bit_length() - 1
-        held -= 1 << state
-        found |= ways[state]
-    return found
 
 
 def apart(one, other):

@@ -47,6 +47,45 @@ POINT_11 = """
     [None, 'rows', -1, 1, 1, (1, ((0, 2, 1), (1, 1, 1), (2, 2, 2)), (0, -1, 1)), 7]
 """
 
+POINTS_9_AND_10 = """
+    >>> from sortedshelves.comps import by_ranks
+    >>> from sortedshelves.lines import again, alike, greatest_image, images, leaves, loses, overlong, sources, unsorts
+    >>> every, fold, swap = (2, ((0, 0),), (True,)), ("pass", ((0, 0),), (("b", "b"),)), ("swap", (("ab", "ba"),))
+    >>> [alike(every, (swap, swap), ()), alike(every, (swap,), ()), again(every, (fold,)), again(every, (swap,)), leaves(every, (fold,), (2, ((None, 0),), (True,))), overlong(every, (("cut", (1, 1), 3),), ((1, 0), 2))]
+    ['aab', 'ab', None, 'ab', None, 'aaa']
+    >>> [loses(every, (fold,)), loses(every, (swap,)), unsorts(every, by_ranks(2, (0, 1)), (swap,)), unsorts(every, by_ranks(2, (0, 0)), (fold,)), images(every, (fold,)), sources((2, ((None, 0),), (True,)), (("stop", "a"),)), greatest_image(every, (("cut", (1, 0), 2),), (3, 0))]
+    [('a', 'b'), ('aab', 'baa'), ('ab', 'b'), None, (2, ((None, 0),), (True,)), (2, ((0, 0),), (True,)), ('most', 6, 'aa')]
+"""
+
+POINTS_12_AND_13 = """
+    >>> from sortedshelves.comps import by_length, by_ranks
+    >>> from sortedshelves.orders import chain_fault, first_fault, is_order, order_paper, paper_holds, self_fault, tie, turn_fault, unlike
+    >>> every, evens, odd = (1, ((0,),), (True,)), (1, ((1,), (0,)), (True, False)), (1, ((0, 1, 1), (0, 0, 0)), (0, 1))
+    >>> [turn_fault(every, odd), is_order(evens, odd), first_fault(every, (1, ((1, 0, 0), (0, 0, 0)), (0, 1))), tie(every, by_length(1)), tie(evens, odd), unlike(every, odd, by_length(1))]
+    [('', 'a'), True, 'a', None, ('', 'aa'), ('', 'a')]
+    >>> [paper_holds(every, (1, ((0, 0, 0),), (0,)), ((((0,), (0,)),), (), ())), paper_holds(evens, odd, order_paper(evens, odd)), order_paper(every, odd), chain_fault(every, (1, ((0, 1, 2), (1, 0, 2), (2, 1, 0)), (0, 1, -1)))]
+    [False, True, None, ('a', 'aa', '')]
+"""
+
+POINT_14 = """
+    >>> from sortedshelves.comps import by_length, by_ranks, then, turned
+    >>> from sortedshelves.ranks import alikes, between, between_count, just_above, leaders, least, rank
+    >>> kind, plain = (2, ((0, 1), (0, None)), (True, True)), by_ranks(2, (0, 1))
+    >>> strict = then(by_length(2), plain)
+    >>> [rank(kind, plain, "aa"), rank(kind, plain, "b"), rank(kind, strict, "aab"), alikes(kind, by_length(2), "bb"), between(kind, plain, "a", "b"), between_count(kind, strict, "a", "bab"), least(kind, turned(plain)), least(kind, plain)]
+    [2, None, 7, 3, 'aa', 8, None, '']
+    >>> [leaders(kind, strict, 5), leaders(kind, turned(by_ranks(2, (0, 1))), 3), just_above(kind, strict, "ab"), just_above(kind, plain, "a"), just_above(kind, plain, "b")]
+    [('', 'a', 'b', 'aa', 'ab'), (), 'ba', 'aa', 'ba']
+"""
+
+POINT_15 = """
+    >>> from sortedshelves.comps import by_length, by_ranks
+    >>> from sortedshelves.queries import answers, asked, query_error, same
+    >>> every, plain, fold = (2, ((0, 0),), (True,)), by_ranks(2, (0, 1)), ("pass", ((0, 0),), (("b", "a"),))
+    >>> [query_error(2, ("not", ("below", "ab"))), query_error(1, ("has", "b")), answers(plain, ("seen", (fold,), ("below", "b")), "ba"), answers(plain, ("all", ()), ""), asked(every, by_length(2), ("below", "aa")), same(every, plain, ("not", ("below", "a")), ("above", "a")), same(every, plain, ("seen", (fold,), ("has", "ab")), ("has", "ba"))]
+    [None, 'query', True, True, (2, ((1, 1), (None, None)), (True, True)), 'a', None]
+"""
+
 
 class Examples(unittest.TestCase):
     def follow(self, text, many):
@@ -74,6 +113,18 @@ class Examples(unittest.TestCase):
 
     def test_point_11(self):
         self.follow(POINT_11, 3)
+
+    def test_points_9_and_10(self):
+        self.follow(POINTS_9_AND_10, 5)
+
+    def test_points_12_and_13(self):
+        self.follow(POINTS_12_AND_13, 5)
+
+    def test_point_14(self):
+        self.follow(POINT_14, 6)
+
+    def test_point_15(self):
+        self.follow(POINT_15, 4)
 
 
 if __name__ == "__main__":

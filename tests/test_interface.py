@@ -9,8 +9,9 @@ import random
 import unittest
 
 import sortedshelves
-from sortedshelves import bounds, checks, comps, counted, forms, graphs, limits, machines, steps
-from tests.reference import random_comp, random_form, random_line, random_pairs, random_unit, random_word
+from sortedshelves import comps, forms, limits, lines, machines, orders, queries, ranks, steps
+from tests.naive import random_query, some_comp, some_kind
+from tests.reference import random_comp, random_form, random_line, random_pairs, random_unit, random_word, timed
 
 FUNCTIONS = {
     "machines": {
@@ -51,8 +52,48 @@ FUNCTIONS = {
         "turned": ("comp",),
         "then": ("one", "other"),
     },
+    "lines": {
+        "alike": ("kind", "one", "other"),
+        "again": ("kind", "line"),
+        "leaves": ("kind", "line", "target"),
+        "overlong": ("kind", "line", "limit"),
+        "loses": ("kind", "line"),
+        "unsorts": ("kind", "comp", "line"),
+        "images": ("kind", "line"),
+        "sources": ("target", "line"),
+        "greatest_image": ("kind", "line", "form"),
+    },
+    "orders": {
+        "self_fault": ("kind", "comp"),
+        "turn_fault": ("kind", "comp"),
+        "chain_fault": ("kind", "comp"),
+        "first_fault": ("kind", "comp"),
+        "is_order": ("kind", "comp"),
+        "order_paper": ("kind", "comp"),
+        "paper_holds": ("kind", "comp", "value"),
+        "unlike": ("kind", "one", "other"),
+        "tie": ("kind", "comp"),
+    },
+    "ranks": {
+        "rank": ("kind", "comp", "word"),
+        "alikes": ("kind", "comp", "word"),
+        "between": ("kind", "comp", "low", "high"),
+        "between_count": ("kind", "comp", "low", "high"),
+        "least": ("kind", "comp"),
+        "leaders": ("kind", "comp", "many"),
+        "just_above": ("kind", "comp", "word"),
+    },
+    "queries": {
+        "query_error": ("letters", "value"),
+        "answers": ("comp", "query", "word"),
+        "asked": ("kind", "comp", "query"),
+        "same": ("kind", "comp", "one", "other"),
+    },
 }
 FOLDER = pathlib.Path(sortedshelves.__file__).parent
+MODULES = [
+    importlib.import_module(f"sortedshelves.{path.stem}") for path in sorted(FOLDER.glob("*.py")) if path.stem[0] != "_"
+]
 
 
 class Interface(unittest.TestCase):
@@ -78,7 +119,7 @@ def state():
     plain = (int, str, tuple, list, dict)
     return [
         (module.__name__, name, copy.deepcopy(value))
-        for module in (bounds, checks, comps, counted, forms, graphs, limits, machines, steps)
+        for module in MODULES
         for name, value in vars(module).items() if isinstance(value, plain) and not name.startswith("__")
     ]
 
@@ -117,6 +158,42 @@ class NothingKept(unittest.TestCase):
             self.assertEqual([call[0](*call[1:]) for call in calls[::-1]][::-1], told)
             self.assertEqual([call[1:] for call in calls], kept)
         self.assertEqual(state(), before)
+
+    def test_lines_orders_ranks_and_queries(self):
+        before = state()
+        chance = random.Random(63)
+        for _ in range(60):
+            letters = chance.randint(1, 3)
+            kind, comp, other = some_kind(chance, letters, 4), some_comp(chance, letters, 4), some_comp(chance, letters, 4)
+            line, query = random_line(chance, letters), random_query(chance, letters, 3)
+            word, limit = random_word(chance, letters, 5), (random_unit(chance, letters), 4)
+            form, second = random_form(chance, letters), random_query(chance, letters, 2)
+            calls = (
+                (lines.alike, kind, line, line[:1]), (lines.again, kind, line), (lines.leaves, kind, line, kind),
+                (lines.overlong, kind, line, limit), (lines.loses, kind, line), (lines.unsorts, kind, comp, line),
+                (lines.images, kind, line), (lines.sources, kind, line), (lines.greatest_image, kind, line, form),
+                (orders.self_fault, kind, comp), (orders.turn_fault, kind, comp), (orders.chain_fault, kind, comp),
+                (orders.first_fault, kind, comp), (orders.is_order, kind, comp), (orders.order_paper, kind, comp),
+                (orders.paper_holds, kind, comp, orders.order_paper(kind, comp)), (orders.unlike, kind, comp, other),
+                (orders.tie, kind, comp), (ranks.rank, kind, comp, word), (ranks.alikes, kind, comp, word),
+                (ranks.between, kind, comp, word, word[1:]), (ranks.between_count, kind, comp, word, word[1:]),
+                (ranks.least, kind, comp), (ranks.leaders, kind, comp, 4), (ranks.just_above, kind, comp, word),
+                (queries.query_error, letters, query), (queries.answers, comp, query, word),
+                (queries.asked, kind, comp, query), (queries.same, kind, comp, query, second),
+            )
+            kept = copy.deepcopy([call[1:] for call in calls])
+            told = [timed(*call) for call in calls]
+            self.assertEqual([timed(*call) for call in calls[::-1]][::-1], told)
+            self.assertEqual([call[1:] for call in calls], kept)
+            for call, found in zip(calls, told):
+                names = FUNCTIONS[call[0].__module__.split(".")[1]][call[0].__name__]
+                self.assertEqual(timed(named, call[0], dict(list(zip(names, call[1:]))[::-1])), found)
+        self.assertEqual(state(), before)
+
+
+def named(call, arguments):
+    """What the call returns if all arguments are passed by name."""
+    return call(**arguments)
 
 
 if __name__ == "__main__":

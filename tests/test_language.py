@@ -172,6 +172,8 @@ class Language(unittest.TestCase):
                     continue
                 where = (name, node.lineno)
                 if isinstance(node.func, ast.Attribute):
+                    if node.func.attr == "__init__" and ast.unparse(node.func) == "super().__init__":
+                        continue
                     self.assertIn(node.func.attr, METHODS | own, where)
                 elif isinstance(node.func, ast.Name) and node.func.id in GATHERERS:
                     # A class that compares is to come, and beside one these take lists alone.
