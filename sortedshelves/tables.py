@@ -70,11 +70,11 @@ class Numbered:
 
     def behind(self, node, letter):
         """The node behind the letter, NEVER or ALWAYS; derived classes tell it."""
-        return NEVER if letter < 0 else node
+        raise NotImplementedError(f"no way from {node} by {letter}")
 
     def node_ends(self, node):
         """Whether a word that comes to the node is told; derived classes tell it."""
-        return node == ALWAYS
+        raise NotImplementedError(f"no end at {node}")
 
 
 def after(table, state, text):

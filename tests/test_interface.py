@@ -9,9 +9,10 @@ import random
 import unittest
 
 import sortedshelves
-from sortedshelves import comps, forms, limits, lines, machines, orders, queries, ranks, steps
+from sortedshelves import comps, forms, limits, lines, machines, orders, queries, ranks, runs, shelves, steps, texts
 from tests.naive import random_query, some_comp, some_kind
 from tests.reference import random_comp, random_form, random_line, random_pairs, random_unit, random_word, timed
+from tests.shelfplans import good_plan, some_item
 
 FUNCTIONS = {
     "machines": {
@@ -89,7 +90,33 @@ FUNCTIONS = {
         "asked": ("kind", "comp", "query"),
         "same": ("kind", "comp", "one", "other"),
     },
+    "texts": {
+        "plan_error": ("value",),
+        "plan_text": ("plan",),
+        "parse_plan": ("value",),
+    },
+    "runs": {
+        "run_error": ("value",),
+        "replayed": ("run",),
+        "kept": ("run",),
+        "joined": ("base", "one", "other"),
+        "fewest_runs": ("base", "goal"),
+    },
 }
+# The methods of the classes: their arguments, and those by keyword alone with what they are if they are left out.
+METHODS = {
+    "shelves": {
+        "Shelf": {
+            "__init__": ("plan",), "put": ("word",), "take": ("index",), "weed": ("query",), "lay": ("line",),
+            "reorder": ("comp",), "widen": ("room",), "undo": (), "redo": (), "attempt": ("edits", "*watch"),
+            "find": ("query",), "places": ("word",), "page": ("first", "many"), "moves": ("comp",),
+            "plan_at": ("*version",), "age": (), "edits": (),
+        },
+        "SureShelf": {},
+    },
+    "consoles": {"Console": {"__init__": ("shelf",), "execute": ("line",)}},
+}
+OPERATORS = {"__getitem__", "__iadd__", "__isub__", "__len__", "__str__", "__eq__"}
 FOLDER = pathlib.Path(sortedshelves.__file__).parent
 MODULES = [
     importlib.import_module(f"sortedshelves.{path.stem}") for path in sorted(FOLDER.glob("*.py")) if path.stem[0] != "_"
@@ -112,6 +139,24 @@ class Interface(unittest.TestCase):
             tree = ast.parse((FOLDER / f"{module}.py").read_text())
             defined = {node.name for node in tree.body if isinstance(node, ast.FunctionDef)}
             self.assertEqual(set(functions) - defined, set())
+
+    def test_classes(self):
+        for module, classes in METHODS.items():
+            tree = ast.parse((FOLDER / f"{module}.py").read_text())
+            defined = {node.name: node for node in tree.body if isinstance(node, ast.ClassDef)}
+            for name, methods in classes.items():
+                own = {node.name for node in defined[name].body if isinstance(node, ast.FunctionDef)}
+                self.assertEqual(set(methods) - own, set())
+                held = getattr(importlib.import_module(f"sortedshelves.{module}"), name)
+                for method, arguments in methods.items():
+                    parameters = list(inspect.signature(getattr(held, method)).parameters.values())[1:]
+                    names = [("*" if one.kind is one.KEYWORD_ONLY else "") + one.name for one in parameters]
+                    self.assertEqual(tuple(names), arguments, (name, method))
+                    for one in parameters:
+                        self.assertIs(one.default, None if one.kind is one.KEYWORD_ONLY else one.empty)
+                if name == "Shelf":
+                    self.assertEqual(OPERATORS - own, set())
+        self.assertEqual((shelves.Shelf.MOST_EDITS, shelves.SureShelf.__bases__), (80, (shelves.Shelf,)))
 
 
 def state():
@@ -189,6 +234,42 @@ class NothingKept(unittest.TestCase):
                 names = FUNCTIONS[call[0].__module__.split(".")[1]][call[0].__name__]
                 self.assertEqual(timed(named, call[0], dict(list(zip(names, call[1:]))[::-1])), found)
         self.assertEqual(state(), before)
+
+    def test_texts_shelves_and_runs(self):
+        before = state()
+        chance = random.Random(64)
+        for _ in range(40):
+            plan = good_plan(chance)
+            words = [tuple(random_word(chance, 2, 1) for _ in range(4)) for _ in range(3)]
+            run = (plan, tuple(some_item(chance, plan) for _ in range(6)))
+            calls = (
+                (texts.plan_error, plan), (texts.plan_text, plan), (texts.parse_plan, texts.plan_text(plan)),
+                (runs.run_error, run), (runs.replayed, run), (runs.kept, run), (runs.joined, *words),
+                (runs.fewest_runs, *words[:2]),
+            )
+            kept = copy.deepcopy([call[1:] for call in calls])
+            told = [timed(*call) for call in calls]
+            self.assertEqual([timed(*call) for call in calls[::-1]][::-1], told)
+            for call, found in zip(calls, told):
+                names = FUNCTIONS[call[0].__module__.split(".")[1]][call[0].__name__]
+                self.assertEqual(timed(named, call[0], dict(list(zip(names, call[1:]))[::-1])), found)
+            one, other = shelves.Shelf(plan), shelves.Shelf(plan=plan)
+            for name, value in run[1]:
+                argument = METHODS["shelves"]["Shelf"][name][0]
+                self.assertEqual(timed(getattr(one, name), value), timed(named, getattr(other, name), {argument: value}))
+            self.assertEqual(one.edits(), other.edits())
+            self.assertEqual([call[1:] for call in calls], kept)
+        self.assertEqual(state(), before)
+
+    def test_methods_by_name_in_another_order(self):
+        plan = ((2, ((0, 0),), (True,)), comps.by_length(2), (), None, ("a", "b"))
+        shelf = shelves.SureShelf(plan=plan)
+        self.assertEqual([shelf.page(many=1, first=1), shelf.find(query=("is", "b")), shelf.places(word="a")],
+                         [("b",), (1,), (0, 2)])
+        self.assertEqual([shelf.attempt(watch=None, edits=[("put", "")]), shelf.put(word="a"), shelf.take(index=0)], [1, 2, 3])
+        self.assertEqual([shelf.weed(query=("is", "a")), shelf.lay(line=()), shelf.reorder(comp=comps.by_length(2)),
+                          shelf.widen(room=None), shelf.moves(comp=comps.by_length(2)), shelf.plan_at(version=None)],
+                         [4, 5, 6, 7, 0, plan[:4] + (("b",),)])
 
 
 def named(call, arguments):
