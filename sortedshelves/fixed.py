@@ -15,7 +15,7 @@ class Fixed:
     """
 
     def __init__(self, comp, word, first, verdict):
-        self.word, self.long, self.start = word, len(word), 0
+        self.word, self.long = word, len(word)
         self.first, self.verdict = first, verdict
         self.table, self.wide = by_signs(comp), comp[0] + 1
         self.stops = [list(comp[2])]

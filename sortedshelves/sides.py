@@ -75,7 +75,6 @@ class Losing:
 
     def __init__(self, kind, line):
         self.sides = Sides(kind, line)
-        self.wide = kind[0] + 1
         start = (self.sides.start, self.sides.start, "", "", False)
         self.numbers = {start: 0}
         self.nodes = [start]

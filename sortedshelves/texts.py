@@ -75,7 +75,7 @@ def plan_text(plan):
     """The text of the plan."""
     kind, comp, line, room, words = plan
     letters, rows, ends = kind
-    lines = [f"letters {LETTERS[:letters]}"]
+    lines = [" ".join(["letters", LETTERS[:letters]])]
     for row, end in zip(rows, ends):
         lines.append(" ".join(["state"] + ["." if item is None else str(item) for item in row] + ["end"] * end))
     for row, verdict in zip(comp[1], comp[2]):
