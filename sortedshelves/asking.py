@@ -81,8 +81,8 @@ def compared(comp, word, verdict):
 
     def goes(node):
         place, row = node
-        rows = [fixed.on(place, row, letter + 1) for letter in range(comp[0])]
-        return [None if row is None else (min(place + 1, len(word)), row) for row in rows]
+        targets = [fixed.on(place, row, letter + 1) for letter in range(comp[0])]
+        return [None if target is None else (min(place + 1, len(word)), target) for target in targets]
 
     rows, nodes = explored((0, 0), goes)
     return Table(rows, [fixed.stop(place, row) for place, row in nodes])

@@ -431,3 +431,46 @@ def row_ring(rows, verdict_at):
     """A comparison of one letter: equal letters lead round a ring of rows, and one row alone tells 1."""
     return (1, tuple(((row + 1) % rows, row, row) for row in range(rows)),
             tuple(1 if row == verdict_at else 0 for row in range(rows)))
+
+
+def first_tuple(kind, comps, looks, many, wanted):
+    """The first tuple of so many words of the kind that is wanted, of whatever length, or None.
+
+    For each comparison looks has which two of the words it reads; wanted is told the verdicts, and
+    whether all words are the same. For each node the first words that come to it are kept: whatever
+    follows, they stay ahead of the other ones of as many letters.
+    """
+    letters, states, ends = kind
+    columns = columns_of(letters)
+
+    def options(stand):
+        held = [(-1, "")] if stand == -1 or ends[stand] else []
+        return held if stand == -1 else held + [(t, sign) for t, sign in zip(states[stand], "abc") if t is not None]
+
+    def behind(node):
+        stands, rows, alike = node
+        for step in product(*[options(stand) for stand in stands]):
+            signs = [sign for _, sign in step]
+            if any(signs):
+                pairs = [(signs[one] or ".") + (signs[other] or ".") for one, other in looks]
+                further = [row if pair == ".." else comp[1][row][columns.index(pair)]
+                           for comp, row, pair in zip(comps, rows, pairs)]
+                yield (tuple(t for t, _ in step), tuple(further), alike and len(set(signs)) == 1), signs
+
+    level = {((0,) * many, (0,) * len(comps), True): ("",) * many}
+    seen = set(level)
+    while level:
+        good = [words for (stands, rows, alike), words in level.items()
+                if all(stand == -1 or ends[stand] for stand in stands)
+                and wanted([comp[2][row] for comp, row in zip(comps, rows)], alike)]
+        if good:
+            return min(good)
+        further = {}
+        for node, words in level.items():
+            for after, signs in behind(node):
+                longer = tuple(word + sign for word, sign in zip(words, signs))
+                if after not in seen and (after not in further or longer < further[after]):
+                    further[after] = longer
+        seen |= set(further)
+        level = further
+    return None

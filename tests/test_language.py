@@ -193,6 +193,51 @@ class Language(unittest.TestCase):
                 self.fail((name, line))
 
 
+    def test_names_in_comprehensions(self):
+        for name, tree in trees():
+            self.assertEqual(list(taken_again(tree, [])), [], name)
+
+
+FUNCTIONS = (ast.FunctionDef, ast.Lambda)
+COMPREHENSIONS = (ast.ListComp, ast.SetComp, ast.DictComp, ast.GeneratorExp)
+
+
+def stored(node):
+    """The names that are assigned in the node, not those of functions and comprehensions in it."""
+    if isinstance(node, ast.Name) and isinstance(node.ctx, ast.Store):
+        yield node.id
+    for part in ast.iter_child_nodes(node):
+        if not isinstance(part, FUNCTIONS + COMPREHENSIONS):
+            yield from stored(part)
+
+
+def assigned(node):
+    """The names that a function or a comprehension assigns."""
+    if isinstance(node, FUNCTIONS):
+        return {argument.arg for argument in node.args.args} | set(stored(node))
+    return {name for part in node.generators for name in stored(part.target)}
+
+
+def taken_again(node, around):
+    """The variables of comprehensions in nested functions and in comprehensions that are names further out (L7)."""
+    for part in ast.iter_child_nodes(node):
+        if isinstance(part, COMPREHENSIONS) and len(around) > 1:
+            for outer in around:
+                yield from ((part.lineno, name) for name in assigned(part) & assigned(outer) - {"_"})
+        held = [part] if isinstance(part, FUNCTIONS + COMPREHENSIONS) else []
+        yield from taken_again(part, around + held)
+
+
+class TakenAgain(unittest.TestCase):
+    def test_finds_them(self):
+        text = "def f(row):\n    def g(rows):\n        return [{} for {} in rows]\n    return g\n"
+        self.assertEqual([len(list(taken_again(ast.parse(text.format(name, name)), []))) for name in ("row", "rows", "k")],
+                         [1, 1, 0])
+        self.assertEqual(list(taken_again(ast.parse("def f(row):\n    return [row for row in row]"), [])), [])
+        self.assertEqual(len(list(taken_again(ast.parse("[[k for k in j] for k in j]"), []))), 0)
+        self.assertEqual(len(list(taken_again(ast.parse("def f():\n    return [[k for k in j] for k in j]"), []))), 1)
+
+
 def passing(node):
     """Whether the node is a call of range, zip and the like, or of a view of a dict."""
     if not isinstance(node, ast.Call):

@@ -8,7 +8,7 @@ from sortedshelves.orders import (
     chain_fault, first_fault, is_order, order_paper, self_fault, tie, turn_fault, unlike,
 )
 from tests.naive import (
-    all_words, longest, naive_chain_fault, naive_paper, naive_self_fault, naive_tie, naive_turn_fault, naive_unlike,
+    all_words, first_tuple, longest, naive_chain_fault, naive_paper, naive_self_fault, naive_tie, naive_turn_fault, naive_unlike,
     row_ring, some_comp, some_kind, sums, tuples_of,
 )
 from tests.reference import chain, holds, random_comp, ring, timed, wheel, words_of
@@ -24,6 +24,21 @@ def trimmed_kind(kind):
     for _ in rows:
         leads |= {state for state in range(len(rows)) if any(target in leads for target in rows[state])}
     return (letters, tuple(tuple(t if t in leads else None for t in row) for row in rows), ends)
+
+
+def rarely_faulty(chance, letters):
+    """An order, or a comparison that mostly tells 0, with one row or verdict changed."""
+    if chance.random() < 0.5:
+        comp = sums(letters, chance.randint(2, 4 if letters < 3 else 2), [chance.randint(0, 5) for _ in range(3)])
+    else:
+        comp = random_comp(chance, letters, chance.randint(2, 9))
+        comp = (letters, comp[1], tuple(0 if chance.random() < 0.85 else verdict for verdict in comp[2]))
+    rows, verdicts = [list(row) for row in comp[1]], list(comp[2])
+    if chance.random() < 0.5:
+        chance.choice(rows)[chance.randrange(len(rows[0]))] = chance.randrange(len(rows))
+    else:
+        verdicts[chance.randrange(len(verdicts))] = chance.choice((-1, 0, 1))
+    return (letters, tuple(map(tuple, rows)), tuple(verdicts))
 
 
 class Against(unittest.TestCase):
@@ -62,6 +77,26 @@ class Against(unittest.TestCase):
             one, two, three = triple
             self.assertTrue(all(holds(kind, held) for held in triple))
             self.assertTrue(tells(comp, one, two) < 1 and tells(comp, two, three) < 1 and tells(comp, one, three) == 1)
+
+    def test_of_whatever_length(self):
+        chance = random.Random(935)
+        late = 0
+        for _ in range(100):
+            letters = chance.choice((1, 1, 2, 2, 3))
+            kind, other = some_kind(chance, letters), some_comp(chance, letters)
+            if letters == 1:
+                kind = ring(chance.randint(4, 6), (chance.randrange(4),))
+            comp = rarely_faulty(chance, letters)
+            for found, comps, looks, many, wanted in (
+                    (turn_fault(kind, comp), [comp] * 2, ((0, 1), (1, 0)), 2, lambda told, alike: told[0] != -told[1]),
+                    (unlike(kind, comp, other), [comp, other], ((0, 1), (0, 1)), 2, lambda told, alike: told[0] != told[1]),
+                    (tie(kind, comp), [comp], ((0, 1),), 2, lambda told, alike: told[0] == 0 and not alike),
+                    (chain_fault(kind, comp), [comp] * 3, ((0, 1), (1, 2), (0, 2)), 3,
+                     lambda told, alike: told[0] < 1 and told[1] < 1 and told[2] == 1)):
+                if many == 2 or len(comp[1]) < 7 or letters == 1:
+                    self.assertEqual(found, first_tuple(kind, comps, looks, many, wanted), (kind, comp, other))
+                    late += found is not None and longest(found) > 4
+        self.assertGreater(late, 10)
 
     def test_none_just_where_a_paper_is(self):
         chance = random.Random(932)
@@ -181,7 +216,9 @@ class Late(unittest.TestCase):
         self.assertEqual(self_fault(kind, comp), wanted)
         self.assertEqual(turn_fault(kind, comp), (wanted, wanted))
         self.assertEqual(first_fault(kind, comp), wanted)
-        self.assertGreater(len(wanted), 100)
+        self.assertEqual(len(wanted), 149)
+        self.assertEqual(self_fault(kind, row_ring(59, 53)), "a" * 289)
+        self.assertEqual(turn_fault(ring(6, (5,)), row_ring(59, 57)), ("a" * 293,) * 2)
         self.assertEqual(tie(kind, comp), ("a" * 4, "a" * 9))
         self.assertEqual(unlike(kind, comp, row_ring(59, 30)), (("a" * next(
             n for n in range(999) if n % 5 == 4 and n % 59 in (30, 31)),) * 2))
