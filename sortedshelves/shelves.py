@@ -24,16 +24,21 @@ class Shelf:
         error = plan_error(plan)
         if error is not None:
             raise BadPlan(error)
-        self.check_sure(plan)
+        self.check_sure(plan, None)
         self.plan = plan
         self.past = begun(plan)
         self.busy = False
         # What first_fault is known to tell of comparisons, for the kind, which never changes.
         self.faults = {plan[1]: None}
 
-    def check_sure(self, plan):
-        """Raise Unsure if this is a SureShelf and the plan is not sure."""
-        found = unsure(plan) if self.SURE else None
+    def check_sure(self, plan, ahead):
+        """Raise Unsure if this is a SureShelf and the plan is not sure.
+
+        ahead is None, or a plan of the same kind that is.
+        """
+        if not self.SURE or ahead is not None and plan[1:3] == ahead[1:3]:
+            return
+        found = unsure(plan)
         if found is not None:
             raise Unsure(found[0], found[1])
 
@@ -52,8 +57,7 @@ class Shelf:
         self.check_free()
         self.check_many()
         plan = edited(self.plan, name, value, self.faults)
-        if name in ("lay", "reorder"):
-            self.check_sure(plan)
+        self.check_sure(plan, self.plan)
         return self.stand(kept_on(self.past, (name, value), plan))
 
     def stand(self, past):
@@ -107,7 +111,7 @@ class Shelf:
         self.busy = True
         try:
             many = self.do_items(items, watch)
-            self.check_sure(self.plan)
+            self.check_sure(self.plan, plan)
             finished = True
         finally:
             self.busy = False
