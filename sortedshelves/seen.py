@@ -13,7 +13,7 @@ class Seen(Numbered):
 
     def decided(self, held, place):
         """The node; NEVER or ALWAYS if what follows in the word does not matter."""
-        if held == ENDED and place >= 0:
+        if held == ENDED:
             return ALWAYS if self.table.is_end(place) else NEVER
         return place if place < 0 else (held, place)
 

@@ -145,6 +145,16 @@ class Same(unittest.TestCase):
         self.assertIsNone(same(NOTHING, PLAIN, ("all", ()), ("some", ())))
         self.assertEqual(same((2, ((1, 1), (None, None)), (False, True)), PLAIN, ("all", ()), ("some", ())), "a")
 
+    def test_what_one_query_alone_has_decided(self):
+        behind_b = (2, ((None, 1), (1, 1)), (False, True))
+        self.assertEqual(same(behind_b, PLAIN, ("has", "ab"), ("has", "aa")), "baa")
+        self.assertEqual(same(behind_b, PLAIN, ("is", "a"), ("has", "ab")), "bab")
+        self.assertEqual(same(behind_b, PLAIN, ("has", "ab"), ("is", "a")), "bab")
+        self.assertEqual(same(behind_b, PLAIN, ("not", ("is", "a")), ("has", "a")), "b")
+        self.assertEqual(same(behind_b, PLAIN, ("has", "b"), ("has", "ba")), "b")
+        self.assertEqual(same(behind_b, PLAIN, ("not", ("is", "a")), ("not", ("has", "ab"))), "bab")
+        self.assertIsNone(same(behind_b, PLAIN, ("is", "a"), ("is", "ab")))
+
     def test_late_words(self):
         count = ("cut", (1, 0), 30)
         self.assertEqual(same(EVERY, PLAIN, ("seen", (count,), ("has", "b")), ("has", "b")), "a" * 31 + "b")
