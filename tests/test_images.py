@@ -160,6 +160,9 @@ class GreatestImage(unittest.TestCase):
         kind = (2, ((1, 2), (1, None), (None, None)), (False, False, True))
         self.assertEqual(greatest_image(kind, (), (5, 1)), ("most", 1, "b"))
         self.assertEqual(greatest_image(kind[:2] + ((False, True, True),), (), (5, 1)), ("ring",))
+        # A ring behind another one, which loses.
+        for form in ((-1, 5), (0, 1), (-99, 99)):
+            self.assertEqual(greatest_image((2, ((1, None), (0, 2), (None, 2)), (False, False, True)), (), form), ("ring",))
         # What is cut off is worth nothing.
         self.assertEqual(greatest_image(kind[:2] + ((False, True, True),), (("cut", (7, 0), 30),), (5, 1)),
                          ("most", 20, "aaaa"))
