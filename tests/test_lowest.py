@@ -115,15 +115,14 @@ class Edges(unittest.TestCase):
 class Great(unittest.TestCase):
     def test_great_sizes(self):
         chance = random.Random(963)
-        for seed in range(2):
-            letters = chance.choice((2, 3))
+        for seed, letters in enumerate((2, 3)):
             kind = wheel(6, ((1, 1), (1, 2), (5, 1))[:letters], range(seed % 3, 6))
             for comp in (random_comp(chance, letters, 60), sums(letters, 7, (1, 2, 4)),
                          then(by_length(letters), by_ranks(letters, (0, 1, 2)[:letters]))):
                 for word in timed(leaders, kind, comp, 12):
                     self.assertTrue(holds(kind, word))
                 timed(least, kind, comp)
-                timed(just_above, kind, comp, random_word(chance, letters, 200))
+                timed(just_above, kind, comp, random_word(chance, letters, 120))
 
 
 if __name__ == "__main__":

@@ -249,16 +249,15 @@ class Late(unittest.TestCase):
 class Great(unittest.TestCase):
     def test_orders_of_many_rows(self):
         for letters in (2, 3):
-            for ends in (range(6), (0, 2, 3))[letters - 2:]:
-                kind, comp = wheel(6, ((1, 1), (1, 2), (5, 1))[:letters], ends), sums(letters, 7, (1, 2, 4))
-                self.assertIsNone(timed(first_fault, kind, comp))
-                self.assertIsNotNone(timed(order_paper, kind, comp))
-                self.assertIsNone(timed(unlike, kind, comp, turned(turned(comp))))
-                self.assertIsNotNone(timed(tie, kind, comp))
+            kind, comp = wheel(6, ((1, 1), (1, 2), (5, 1))[:letters], (0, 2, 3)), sums(letters, 7, (1, 2, 4))
+            self.assertIsNone(timed(first_fault, kind, comp))
+            self.assertIsNotNone(timed(order_paper, kind, comp))
+            self.assertIsNone(timed(unlike, kind, comp, turned(turned(comp))))
+            self.assertIsNotNone(timed(tie, kind, comp))
 
     def test_any_comparisons_of_many_rows(self):
         chance = random.Random(934)
-        for seed in range(10):
+        for seed in range(6):
             letters = chance.choice((2, 3))
             kind = wheel(6, ((1, 1), (1, 2), (5, 1))[:letters], range(seed % 3, 6))
             one, other = random_comp(chance, letters, 60), random_comp(chance, letters, 60)
