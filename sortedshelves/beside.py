@@ -86,7 +86,8 @@ class Beside:
                 # Behind the fixed words all goes on as it did where the same was come to before.
                 level = {key: level[key] - (level[key] & seen.get(key, 0)) for key in level}
                 level = {key: level[key] for key in level if level[key]}
-                seen.update({key: level[key] | seen.get(key, 0) for key in level})
+                for key in level:
+                    seen[key] = level[key] | seen.get(key, 0)
             levels.append(level)
         return None
 

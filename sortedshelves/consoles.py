@@ -31,7 +31,7 @@ class Console:
         try:
             return answer(self.shelf, name, values)
         except (ShelfError, NoWord, NoVersion) as error:
-            return f"error {error.__class__.__name__}"
+            return "error " + error.__class__.__name__
 
 
 def values_of(name, parts):

@@ -58,10 +58,8 @@ class Tables:
     """
 
     def __init__(self, under, kept):
-        self.threats = [lasting(lambda last: threats_at(under, kept, kept.long, last), [0] * len(under.pairs))]
-        self.dooms = [lasting(
-            lambda last: dooms_at(under, kept, kept.long, self.threats[0], last), [kept.whole] * len(under.couples)
-        )]
+        self.threats = [lasting_threats(under, kept)]
+        self.dooms = [lasting_dooms(under, kept, self.threats[0])]
         for place in range(kept.long - 1, -1, -1):
             self.threats.append(threats_at(under, kept, place, self.threats[-1]))
             self.dooms.append(dooms_at(under, kept, place, self.threats[-1], self.dooms[-1]))
@@ -75,6 +73,16 @@ def lasting(further, found):
         last = found
         found = further(last)
     return found
+
+
+def lasting_threats(under, kept):
+    """The threats at the last place, behind which nothing changes."""
+    return lasting(lambda last: threats_at(under, kept, kept.long, last), [0] * len(under.pairs))
+
+
+def lasting_dooms(under, kept, threats):
+    """The dooms at the last place, told the threats there."""
+    return lasting(lambda last: dooms_at(under, kept, kept.long, threats, last), [kept.whole] * len(under.couples))
 
 
 def threats_at(under, kept, place, behind):

@@ -10,6 +10,7 @@ from sortedshelves.pairs import by_signs, side_by_side
 # For selfs, turns and chains: the two words that each of the rows reads.
 SORTS = (((0, 0),), ((0, 1), (1, 0)), ((0, 1), (1, 2), (0, 2)))
 
+
 class Items:
     """The items of one sort: what is behind their steps on, and whether they are as they must be where they stop."""
 

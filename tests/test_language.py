@@ -179,6 +179,19 @@ class Language(unittest.TestCase):
                     # A class that compares is to come, and beside one these take lists alone.
                     self.assertFalse(any(isinstance(part, ast.GeneratorExp) for part in node.args), where)
 
+    def test_constructors_return_nothing(self):
+        for name, tree in trees():
+            for node in ast.walk(tree):
+                if isinstance(node, ast.FunctionDef) and node.name == "__init__":
+                    returned = [part for part in ast.walk(node) if isinstance(part, (ast.Return, ast.Lambda))]
+                    self.assertEqual(returned, [], (name, node.lineno))
+
+    def test_names_of_errors_stand_in_no_text(self):
+        for name, tree in trees():
+            for node in ast.walk(tree):
+                if isinstance(node, ast.JoinedStr):
+                    self.assertNotIn("__", ast.unparse(node), (name, node.lineno))
+
     def test_what_is_iterated_is_not_changed(self):
         for name, tree in trees():
             for loop in ast.walk(tree):
@@ -186,12 +199,10 @@ class Language(unittest.TestCase):
                     read = {part.id for part in ast.walk(loop.iter) if isinstance(part, ast.Name)}
                     self.assertEqual(read & set(changed_names(loop)), set(), (name, loop.lineno))
 
-
     def test_ranges_zips_and_views_are_iterated_on_the_spot(self):
         for name, tree in trees():
             for line in kept_or_passed(tree):
                 self.fail((name, line))
-
 
     def test_names_in_comprehensions(self):
         for name, tree in trees():
