@@ -24,23 +24,15 @@ class Shelf:
         error = plan_error(plan)
         if error is not None:
             raise BadPlan(error)
-        self.check_sure(plan, None)
         self.plan = plan
         self.past = begun(plan)
         self.busy = False
         # What first_fault is known to tell of comparisons, for the kind, which never changes.
         self.faults = {plan[1]: None}
 
-    def check_sure(self, plan, ahead):
-        """Raise Unsure if this is a SureShelf and the plan is not sure.
-
-        ahead is None, or a plan of the same kind that is.
-        """
-        if not self.SURE or ahead is not None and plan[1:3] == ahead[1:3]:
-            return
-        found = unsure(plan)
-        if found is not None:
-            raise Unsure(found[0], found[1])
+    def check_coming(self, plan, ahead):
+        """Let the plan stand behind the one ahead of it; derived classes may raise an error."""
+        pass
 
     def check_free(self):
         """Raise Busy while a watch runs or its result is asked."""
@@ -57,7 +49,7 @@ class Shelf:
         self.check_free()
         self.check_many()
         plan = edited(self.plan, name, value, self.faults)
-        self.check_sure(plan, self.plan)
+        self.check_coming(plan, self.plan)
         return self.stand(kept_on(self.past, (name, value), plan))
 
     def stand(self, past):
@@ -111,7 +103,7 @@ class Shelf:
         self.busy = True
         try:
             many = self.do_items(items, watch)
-            self.check_sure(self.plan, plan)
+            self.check_coming(self.plan, plan)
             finished = True
         finally:
             self.busy = False
@@ -205,6 +197,23 @@ class SureShelf(Shelf):
     """A shelf whose plan stays sure: no image leaves the kind, none is lost, and sorted words stay sorted."""
 
     SURE = True
+
+    def __init__(self, plan):
+        super().__init__(plan)
+        check_sure(plan)
+
+    def check_coming(self, plan, ahead):
+        """Raise Unsure if the plan is not sure."""
+        # The one ahead is sure and of the same kind, so with its comparison and line this one is, too.
+        if plan[1:3] != ahead[1:3]:
+            check_sure(plan)
+
+
+def check_sure(plan):
+    """Raise Unsure if the plan is not sure."""
+    found = unsure(plan)
+    if found is not None:
+        raise Unsure(found[0], found[1])
 
 
 def unsure(plan):

@@ -53,6 +53,11 @@ class Errors(unittest.TestCase):
         names = {node.name for node in tree.body if isinstance(node, ast.ClassDef)}
         self.assertEqual(names, set(FIELDS) | {"ShelfError"})
 
+    def test_those_with_fields_have_constructors_of_their_own(self):
+        for name, fields in FIELDS.items():
+            if fields:
+                self.assertIn("__init__", vars(getattr(errors, name)), name)
+
     def test_fields_by_position_are_the_very_objects(self):
         for name, fields in FIELDS.items():
             for at in range(len(VALUES)):

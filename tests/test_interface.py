@@ -112,7 +112,7 @@ METHODS = {
             "find": ("query",), "places": ("word",), "page": ("first", "many"), "moves": ("comp",),
             "plan_at": ("*version",), "age": (), "edits": (),
         },
-        "SureShelf": {},
+        "SureShelf": {"__init__": ("plan",)},
     },
     "consoles": {"Console": {"__init__": ("shelf",), "execute": ("line",)}},
 }
